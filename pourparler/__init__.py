@@ -1,0 +1,1 @@
+"""Pourparler: actors with typed conversations."""
