@@ -1,0 +1,93 @@
+"""The interface stands where the document lists it, and the files keep to their sizes and characters."""
+
+import ast
+import pathlib
+import unittest
+
+PACKAGE = pathlib.Path(__file__).resolve().parent.parent / "pourparler"
+ERRORS = {"Refused": None, "Malformed": ["at"], "Unknown": ["name"], "Clashing": ["name"], "Oversized": ["limit"],
+          "Misused": ["why"], "Mistaken": ["at", "why"]}
+FUNCTIONS = {
+    "lexer": {"tokens": ["text"], "is_name": ["value"]},
+    "parser": {"parse": ["text"], "parse_talk": ["text"], "parse_expression": ["text"]},
+    "program": {"program_of": ["text"]},
+    "printer": {
+        "show_talk": ["talk"], "show_kind": ["kind"], "show_expression": ["e"], "show_definition": ["definition"],
+        "show_program": ["program"], "bare": ["tree"]},
+    "talks": {
+        "check_table": ["table"], "dual": ["talk"], "dual_kind": ["kind"], "head": ["table", "talk"],
+        "row_of": ["talk", "label"], "stages": ["table", "talk"]},
+    "subtalk": {
+        "is_subtalk": ["table", "one", "two"], "is_subkind": ["table", "one", "two"],
+        "wrong_path": ["table", "one", "two"]},
+}
+PROGRAM = {
+    "__init__": [], "add_talk": ["name", "talk"], "add_actor": ["definition"], "talk": ["name"], "actor": ["name"],
+    "has_talk": ["name"], "has_actor": ["name"], "talks": [], "table": [], "actors": []}
+
+
+def tree_of(path):
+    return ast.parse(path.read_text(encoding="ascii"))
+
+
+def named(body, kind):
+    return {node.name: node for node in body if isinstance(node, kind)}
+
+
+def parameters(function):
+    return [one.arg for one in function.args.args]
+
+
+class InterfaceTest(unittest.TestCase):
+    def test_functions(self):
+        for module, listed in FUNCTIONS.items():
+            found = named(tree_of(PACKAGE / (module + ".py")).body, ast.FunctionDef)
+            for name, expected in listed.items():
+                self.assertIn(name, found)
+                self.assertEqual(parameters(found[name]), expected, name)
+
+    def test_errors(self):
+        found = named(tree_of(PACKAGE / "errors.py").body, ast.ClassDef)
+        self.assertEqual(list(found), list(ERRORS))
+        for name, expected in ERRORS.items():
+            if expected is not None:
+                methods = named(found[name].body, ast.FunctionDef)
+                self.assertEqual(parameters(methods["__init__"]), ["self", *expected])
+
+    def test_program(self):
+        found = named(tree_of(PACKAGE / "program.py").body, ast.ClassDef)
+        methods = named(found["Program"].body, ast.FunctionDef)
+        for name, expected in PROGRAM.items():
+            self.assertEqual(parameters(methods[name]), ["self", *expected], name)
+
+
+class FilesTest(unittest.TestCase):
+    def test_only_python_files(self):
+        found = [path.name for path in PACKAGE.iterdir() if path.name != "__pycache__"]
+        self.assertIn("__init__.py", found)
+        self.assertEqual([name for name in found if not name.endswith(".py")], [])
+
+    def test_characters_and_sizes(self):
+        for path in PACKAGE.glob("*.py"):
+            lines = path.read_text(encoding="ascii").split("\n")
+            self.assertLessEqual(len(lines) - 1, 399, path)
+            for number, line in enumerate(lines, start=1):
+                self.assertLessEqual(len(line), 120, (path, number))
+                self.assertTrue(all(" " <= character <= "~" for character in line), (path, number))
+
+    def test_functions_are_small(self):
+        for path in PACKAGE.glob("*.py"):
+            for node in ast.walk(tree_of(path)):
+                if isinstance(node, ast.FunctionDef):
+                    self.assertLessEqual(node.end_lineno - node.lineno + 1, 40, (path, node.name))
+
+    def test_imports_only_from_the_package(self):
+        for path in PACKAGE.glob("*.py"):
+            for node in ast.walk(tree_of(path)):
+                self.assertNotIsInstance(node, ast.Import, path)
+                if isinstance(node, ast.ImportFrom):
+                    self.assertTrue(node.module.startswith("pourparler."), (path, node.module))
+
+
+if __name__ == "__main__":
+    unittest.main()
