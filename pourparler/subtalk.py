@@ -11,21 +11,37 @@ def is_subtalk(table, one, two):
 
 def is_subkind(table, one, two):
     """Tells whether a payload is a subkind of another one."""
-    if isinstance(one, tuple) and isinstance(two, tuple):
-        return is_subtalk(table, one, two)
-    return one == two
+    return Subkinds(table).holds(one, two)
 
 
 def wrong_path(table, one, two):
     """Returns None for a subtalk, otherwise the first path to a place where it fails, and the reason."""
-    pairs = Pairs(table, one, two)
-    at = 0
-    while at < pairs.many():
-        reason = visit(pairs, at)
-        if reason is not None:
-            return (pairs.steps_to(at), reason)
-        at += 1
-    return None
+    pairs = Pairs(table)
+    pairs.begin(one, two)
+    return pairs.first_wrong(lambda at: visit(pairs, at))
+
+
+class Subkinds:
+    """Tells of one payload after the other whether it is a subkind of another one.
+
+    Pairs of talks that held still hold, so they are kept, and none of them is visited for two questions.
+    """
+
+    def __init__(self, table):
+        self._source = table
+        self._held = Pairs(table)
+
+    def holds(self, one, two):
+        """Tells whether a payload is a subkind of another one; a payload may be any talk here."""
+        if not (isinstance(one, tuple) and isinstance(two, tuple)):
+            return one == two
+        pairs = self._held
+        pairs.begin(one, two)
+        if pairs.first_wrong(lambda at: visit(pairs, at)) is None:
+            return True
+        # Some of the pairs that were reached by now do not hold.
+        self._held = Pairs(self._source)
+        return False
 
 
 def visit(pairs, at):

@@ -4,22 +4,10 @@ import itertools
 import random
 import unittest
 
-from pourparler.subtalk import is_subkind, is_subtalk, wrong_path
-from pourparler.talks import dual, head
-
-END = ("end",)
-
-
-def say(*rows):
-    return ("say", rows)
-
-
-def hear(*rows):
-    return ("hear", rows)
-
-
-ONE_SAY, TWO_SAYS = say(("a", None, END)), say(("a", None, END), ("b", None, END))
-ONE_HEAR, TWO_HEARS = dual(ONE_SAY), dual(TWO_SAYS)
+from pourparler.subtalk import Subkinds, is_subkind, is_subtalk, wrong_path
+from pourparler.talks import dual
+from talk_tools import (
+    END, NAMES, ONE_HEAR, ONE_SAY, TWO_HEARS, TWO_SAYS, first_wrong, greatest_relation, hear, random_table, say)
 
 
 class SubtalkCase(unittest.TestCase):
@@ -218,37 +206,7 @@ class OrderTest(SubtalkCase):
         self.assertEqual(list(table.items()), [("S", ONE_SAY), ("E", END)])
 
 
-NAMES = ("A", "B", "C")
-
-
-def random_table(source):
-    """Returns a random well-formed table of talks that are much alike, so that wrong paths are long, too."""
-    def name():
-        return source.choice((("name", source.choice(NAMES)), ("dual", source.choice(NAMES))))
-
-    def payload():
-        return source.choice((None, None, "int", name(), name()))
-
-    def talk(levels):
-        if levels == 0:
-            return source.choice((END, name(), name(), name()))
-        labels = source.sample("ab", source.choice((1, 2, 2)))
-        rows = tuple((label, payload(), talk(levels - 1)) for label in labels)
-        return (source.choice(("say", "hear")), rows)
-
-    def changed(one):
-        if one[0] not in ("say", "hear"):
-            return one if source.random() < 0.8 else source.choice((END, name()))
-        rows = [(label, kind if source.random() < 0.9 else payload(), changed(after)) for label, kind, after in one[1]]
-        if source.random() < 0.1:
-            rows.reverse()
-        return (one[0], tuple(rows[source.random() < 0.1:] or rows))
-
-    first = talk(2)
-    return {"A": first, "B": changed(first), "C": changed(first)}
-
-
-def links(one, two):
+def links(table, one, two):
     """Returns the reason why a pair of heads fails, and the steps from it with the pairs that they lead to."""
     if one[0] != two[0]:
         return ("head",), []
@@ -270,38 +228,6 @@ def links(one, two):
     return None, steps
 
 
-def greatest_relation(table, one, two):
-    """Tells whether a pair is in the greatest relation: takes out all pairs that fail, until none does."""
-    behind = {}
-    waiting = [(head(table, one), head(table, two))]
-    while waiting:
-        pair = waiting.pop()
-        if pair not in behind:
-            reason, steps = links(*pair)
-            behind[pair] = None if reason else [(head(table, a), head(table, b)) for _, (a, b) in steps]
-            waiting.extend(behind[pair] or [])
-    relation = {pair for pair in behind if behind[pair] is not None}
-    while True:
-        kept = {pair for pair in relation if all(after in relation for after in behind[pair])}
-        if kept == relation:
-            return (head(table, one), head(table, two)) in relation
-        relation = kept
-
-
-def first_wrong_path(table, one, two, longest):
-    """Goes through all paths, the shorter ones first, without remembering any pair."""
-    paths = [((), (one, two))]
-    for _ in range(longest + 1):
-        further = []
-        for path, (a, b) in paths:
-            reason, steps = links(head(table, a), head(table, b))
-            if reason is not None:
-                return path, reason
-            further.extend((path + (step,), pair) for step, pair in steps)
-        paths = further
-    return None
-
-
 class RandomTest(SubtalkCase):
     def test_greatest_relation(self):
         found = {True: 0, False: 0}
@@ -309,7 +235,7 @@ class RandomTest(SubtalkCase):
             table = random_table(random.Random(seed))
             kinds = [(way, name) for way in ("name", "dual") for name in NAMES]
             for one, two in itertools.product(kinds, repeat=2):
-                expected = greatest_relation(table, one, two)
+                expected = greatest_relation(table, links, one, two)
                 self.assertIs(is_subtalk(table, one, two), expected, (table, one, two))
                 self.assertIs(is_subkind(table, one, two), expected)
                 self.assertIs(is_subtalk(table, dual(two), dual(one)), expected)
@@ -317,6 +243,20 @@ class RandomTest(SubtalkCase):
                     found[expected] += 1
         self.assertGreater(found[True], 100)
         self.assertGreater(found[False], 100)
+
+    def test_one_question_after_the_other(self):
+        found = {True: 0, False: 0}
+        for seed in range(60):
+            source = random.Random(seed)
+            table = random_table(source)
+            subkinds = Subkinds(table)
+            kinds = [None, "int"] + [(way, name) for way in ("name", "dual") for name in NAMES]
+            for _ in range(60):
+                one, two = source.choice(kinds), source.choice(kinds)
+                expected = is_subkind(table, one, two)
+                self.assertIs(subkinds.holds(one, two), expected, (table, one, two))
+                found[expected] += one != two
+        self.assertGreater(min(found.values()), 100)
 
     def test_first_wrong_path(self):
         lengths = [0] * 10
@@ -328,7 +268,7 @@ class RandomTest(SubtalkCase):
                     continue
                 lengths[len(found[0])] += 1
                 if len(found[0]) <= 6:
-                    self.assertEqual(found, first_wrong_path(table, ("name", one), ("name", two), 6))
+                    self.assertEqual(found, first_wrong(table, links, ("name", one), ("name", two), 6))
         self.assertGreater(sum(lengths[2:]), 10)
 
 
