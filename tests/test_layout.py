@@ -20,10 +20,28 @@ FUNCTIONS = {
     "subtalk": {
         "is_subtalk": ["table", "one", "two"], "is_subkind": ["table", "one", "two"],
         "wrong_path": ["table", "one", "two"]},
+    "fitting": {"fits": ["table", "one", "two"], "wrong_run": ["table", "one", "two"]},
+    "expressions": {"kind_of": ["expression", "context", "at"]},
+    "checker": {
+        "check_block": ["program", "context", "block"], "check_definition": ["program", "definition"],
+        "check_program": ["program"], "mistake": ["program"]},
+    "replacing": {"refusal": ["program", "definition"], "may_replace": ["program", "definition"]},
+    "values": {"evaluate": ["e", "names"], "is_end": ["value"], "ends_of": ["names"]},
 }
-PROGRAM = {
-    "__init__": [], "add_talk": ["name", "talk"], "add_actor": ["definition"], "talk": ["name"], "actor": ["name"],
-    "has_talk": ["name"], "has_actor": ["name"], "talks": [], "table": [], "actors": []}
+METHODS = {
+    ("program", "Program"): {
+        "__init__": [], "add_talk": ["name", "talk"], "add_actor": ["definition"], "talk": ["name"],
+        "actor": ["name"], "has_talk": ["name"], "has_actor": ["name"], "talks": [], "table": [], "actors": []},
+    ("contexts", "Context"): {
+        "__init__": ["pairs"], "__iter__": [], "binds": ["name"], "kind": ["name"], "is_end": ["name"],
+        "bind": ["name", "kind"], "change": ["name", "talk"], "release": ["name"], "ends": [], "pairs": [],
+        "twin": []},
+    ("mailboxes", "Conversations"): {
+        "__init__": [], "__len__": [], "create": [], "send": ["conversation", "side", "label", "payload"],
+        "hear": ["conversation", "side"], "can_hear": ["conversation", "side"], "is_told": ["conversation", "side"],
+        "close": ["conversation", "side"], "drop": ["ends"], "mark": ["conversation", "side"],
+        "mailbox": ["conversation", "side"], "snapshot": [], "twin": []},
+}
 
 
 def tree_of(path):
@@ -54,11 +72,12 @@ class InterfaceTest(unittest.TestCase):
                 methods = named(found[name].body, ast.FunctionDef)
                 self.assertEqual(parameters(methods["__init__"]), ["self", *expected])
 
-    def test_program(self):
-        found = named(tree_of(PACKAGE / "program.py").body, ast.ClassDef)
-        methods = named(found["Program"].body, ast.FunctionDef)
-        for name, expected in PROGRAM.items():
-            self.assertEqual(parameters(methods[name]), ["self", *expected], name)
+    def test_methods(self):
+        for (module, word), listed in METHODS.items():
+            found = named(tree_of(PACKAGE / (module + ".py")).body, ast.ClassDef)
+            methods = named(found[word].body, ast.FunctionDef)
+            for name, expected in listed.items():
+                self.assertEqual(parameters(methods[name]), ["self", *expected], name)
 
 
 class FilesTest(unittest.TestCase):
