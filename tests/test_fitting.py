@@ -6,7 +6,7 @@ import unittest
 
 from pourparler.fitting import fits, wrong_run
 from pourparler.subtalk import is_subkind, is_subtalk
-from pourparler.talks import dual
+from pourparler.talks import dual, head, row_of
 from talk_tools import (
     END, NAMES, ONE_HEAR, ONE_SAY, TWO_HEARS, TWO_SAYS, first_wrong, greatest_relation, hear, random_table, say)
 
@@ -258,6 +258,38 @@ class RandomTest(FittingCase):
                 if one != two:
                     found[expected] += 1
         self.assertGreater(min(found.values()), 100)
+
+    def assert_partners_meet(self, source, table, *talks):
+        """Plays two partners with mailboxes: each message is heard, and never do both of them wait."""
+        talks, mailboxes = list(talks), ([], [])
+        for _ in range(25):
+            heads = [head(table, talk) for talk in talks]
+            moving = [side for side in (0, 1) if heads[side][0] == "say" or mailboxes[side]]
+            if not moving:
+                self.assertEqual(heads, [("end",), ("end",)])
+                return
+            side = source.choice(moving)
+            if mailboxes[side]:
+                label, payload = mailboxes[side].pop(0)
+                self.assertEqual(heads[side][0], "hear")
+                row = row_of(heads[side], label)
+                self.assertTrue(is_subkind(table, payload, row[1]))
+            else:
+                row = source.choice(heads[side][1])
+                mailboxes[1 - side].append(row[:2])
+            talks[side] = row[2]
+
+    def test_an_end_that_is_used_as_another_talk(self):
+        met = 0
+        for seed in range(60):
+            source = random.Random(seed)
+            table = random_table(source)
+            for one, two, three in itertools.product(KINDS, repeat=3):
+                if one != two and is_subtalk(table, one, two) and fits(table, two, three):
+                    self.assert_partners_meet(source, table, two, three)
+                    self.assert_partners_meet(source, table, two, dual(one))
+                    met += 1
+        self.assertGreater(met, 100)
 
     def test_greatest_relation(self):
         found = {True: 0, False: 0}

@@ -7,6 +7,8 @@ import unittest
 PACKAGE = pathlib.Path(__file__).resolve().parent.parent / "pourparler"
 ERRORS = {"Refused": None, "Malformed": ["at"], "Unknown": ["name"], "Clashing": ["name"], "Oversized": ["limit"],
           "Misused": ["why"], "Mistaken": ["at", "why"]}
+# These are passed by name only, and have default values.
+PLAN = ["schedule", "falls", "replacements", "limit"]
 FUNCTIONS = {
     "lexer": {"tokens": ["text"], "is_name": ["value"]},
     "parser": {"parse": ["text"], "parse_talk": ["text"], "parse_expression": ["text"]},
@@ -27,6 +29,12 @@ FUNCTIONS = {
         "check_program": ["program"], "mistake": ["program"]},
     "replacing": {"refusal": ["program", "definition"], "may_replace": ["program", "definition"]},
     "values": {"evaluate": ["e", "names"], "is_end": ["value"], "ends_of": ["names"]},
+    "plain": {"step": ["state", "actor"], "fall": ["state", "actor"], "run": ["program", *PLAN]},
+    "code": {"is_effect": ["instruction"], "code_text": ["code"]},
+    "compiler": {"compile_definition": ["definition"], "compile_program": ["program"]},
+    "machine": {"run_machine": ["program", *PLAN]},
+    "judge": {"judge": ["table", "trace"], "history": ["trace", "conversation"],
+              "words": ["trace", "conversation", "side"]},
 }
 METHODS = {
     ("program", "Program"): {
@@ -41,6 +49,19 @@ METHODS = {
         "hear": ["conversation", "side"], "can_hear": ["conversation", "side"], "is_told": ["conversation", "side"],
         "close": ["conversation", "side"], "drop": ["ends"], "mark": ["conversation", "side"],
         "mailbox": ["conversation", "side"], "snapshot": [], "twin": []},
+    ("state", "State"): {
+        "__init__": ["program"], "program": [], "newest": ["name"], "renew": ["definition"], "actors": [],
+        "status": ["actor"], "name": ["actor"], "rest": ["actor"], "names": ["actor"], "ready": [], "running": [],
+        "start": ["definition", "values"], "put": ["actor", "names", "rest"],
+        "rename": ["actor", "definition", "values"], "finish": ["actor", "status"], "snapshot": [], "twin": []},
+    ("code", "Code"): {"__init__": ["name", "size", "slots", "instructions"]},
+    ("machine", "Machine"): {
+        "__init__": ["program"], "ready": [], "turn": ["actor"], "fall": ["actor"],
+        "replace_definition": ["definition"], "status": ["actor"], "actors": []},
+    ("history", "Ledger"): {
+        "__init__": ["table"], "allows": ["event"], "enter": ["event"], "talk_of": ["conversation", "side"],
+        "mark_of": ["conversation", "side"], "mailbox_of": ["conversation", "side"], "owed": [], "conversations": [],
+        "actors": [], "finished": ["actor"]},
 }
 
 
@@ -53,7 +74,7 @@ def named(body, kind):
 
 
 def parameters(function):
-    return [one.arg for one in function.args.args]
+    return [one.arg for one in function.args.args + function.args.kwonlyargs]
 
 
 class InterfaceTest(unittest.TestCase):
@@ -63,6 +84,8 @@ class InterfaceTest(unittest.TestCase):
             for name, expected in listed.items():
                 self.assertIn(name, found)
                 self.assertEqual(parameters(found[name]), expected, name)
+                named_only = [one.arg for one in found[name].args.kwonlyargs]
+                self.assertEqual(named_only, PLAN if PLAN[0] in expected else [], name)
 
     def test_errors(self):
         found = named(tree_of(PACKAGE / "errors.py").body, ast.ClassDef)
